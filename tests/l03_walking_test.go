@@ -493,15 +493,7 @@ func TestWalkingInvalidPanels(t *testing.T) {
 // TestWalkingUnchanged is P1: no function of chapter 3 changes a panel, and all tell the same again.
 func TestWalkingUnchanged(t *testing.T) {
 	for _, p := range append(invalidPanels(), panelOf(1, 1), mixedPanel(2, 1), mixedPanel(3, 4), mixedPanel(8, 8)) {
-		memory := append(slices.Clone(p.Breaks), 7, 8, 9)
-		before := slices.Clone(memory)
-		q := impl.Panel{W: p.W, H: p.H, Breaks: memory[:len(p.Breaks)]}
-		first := allOfWalking(q)
-		same(t, fmt.Sprint("memory of ", p), memory, before)
-		same(t, fmt.Sprint("called again for ", p), allOfWalking(q), first)
-		copied := impl.Panel{W: p.W, H: p.H, Breaks: slices.Clone(p.Breaks)}
-		same(t, fmt.Sprint("called for a copy of ", p), allOfWalking(copied), first)
-		same(t, fmt.Sprint("sides of ", p), []int64{q.W, q.H}, []int64{p.W, p.H})
+		unchanged(t, p, allOfWalking)
 	}
 }
 

@@ -755,15 +755,7 @@ func TestTextSizes(t *testing.T) {
 func TestPicturesUnchanged(t *testing.T) {
 	panels := []impl.Panel{panelOf(1, 1), mixedPanel(2, 1), mixedPanel(3, 4), mixedPanel(8, 8), smallCircles(8, 8)}
 	for _, p := range append(invalidPanels(), panels...) {
-		memory := append(slices.Clone(p.Breaks), 7, 8, 9)
-		before := slices.Clone(memory)
-		q := impl.Panel{W: p.W, H: p.H, Breaks: memory[:len(p.Breaks)]}
-		first := allOfPictures(q)
-		same(t, fmt.Sprint("called again for ", p), allOfPictures(q), first)
-		same(t, fmt.Sprint("memory of ", p), memory, before)
-		copied := impl.Panel{W: p.W, H: p.H, Breaks: slices.Clone(p.Breaks)}
-		same(t, fmt.Sprint("called for a copy of ", p), allOfPictures(copied), first)
-		same(t, fmt.Sprint("sides of ", p), []int64{q.W, q.H}, []int64{p.W, p.H})
+		unchanged(t, p, allOfPictures)
 	}
 	right := picture(mixedPanel(3, 4), nil)
 	for _, lines := range [][]string{nil, {}, {""}, {" . ", ". .", " . "}, right, changed(right, 3, 4, "x"), right[:8], append(right[:8:8], ".")} {

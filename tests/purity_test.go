@@ -9,18 +9,25 @@ import (
 	"loop.example/g00931/impl"
 )
 
+// unchanged calls what tells everything of a panel, twice and once more for a copy: it tells the same each time, and
+// neither the panel nor what lies behind its list in memory is changed.
+func unchanged(t *testing.T, p impl.Panel, tell func(impl.Panel) []string) {
+	t.Helper()
+	memory := append(slices.Clone(p.Breaks), 7, 8, 9)
+	before := slices.Clone(memory)
+	q := impl.Panel{W: p.W, H: p.H, Breaks: memory[:len(p.Breaks)]}
+	first := tell(q)
+	same(t, fmt.Sprint("called again for ", p), tell(q), first)
+	same(t, fmt.Sprint("memory of ", p), memory, before)
+	copied := impl.Panel{W: p.W, H: p.H, Breaks: slices.Clone(p.Breaks)}
+	same(t, fmt.Sprint("called for a copy of ", p), tell(copied), first)
+	same(t, fmt.Sprint("sides of ", p), []int64{q.W, q.H}, []int64{p.W, p.H})
+}
+
 // TestPanelsUnchanged is P1: no function changes a panel, nor what lies behind its list in memory.
 func TestPanelsUnchanged(t *testing.T) {
 	for _, p := range append(invalidPanels(), panelOf(1, 1), mixedPanel(2, 1), mixedPanel(3, 4), mixedPanel(8, 8)) {
-		memory := append(slices.Clone(p.Breaks), 7, 8, 9)
-		before := slices.Clone(memory)
-		q := impl.Panel{W: p.W, H: p.H, Breaks: memory[:len(p.Breaks)]}
-		first := allOfPanel(q)
-		same(t, fmt.Sprint("memory of ", p), memory, before)
-		same(t, fmt.Sprint("called again for ", p), allOfPanel(q), first)
-		copied := impl.Panel{W: p.W, H: p.H, Breaks: slices.Clone(p.Breaks)}
-		same(t, fmt.Sprint("called for a copy of ", p), allOfPanel(copied), first)
-		same(t, fmt.Sprint("sides of ", p), []int64{q.W, q.H}, []int64{p.W, p.H})
+		unchanged(t, p, allOfPanel)
 	}
 }
 
