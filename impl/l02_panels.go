@@ -25,7 +25,8 @@ type Point struct {
 	Y int64
 }
 
-// size is the width and the height of a panel; its methods but isValid need valid ones.
+// size is the width and the height of a panel; its methods but isValid need valid ones, or, in chapter 7,
+// those up to maxPlain.
 type size struct {
 	w int64
 	h int64
