@@ -60,6 +60,15 @@ func isDigit(r rune) bool { return r >= '0' && r <= '9' }
 // Decimal returns the decimal form of a number.
 func Decimal(n int64) string { return strconv.FormatInt(n, 10) }
 
+// decimals returns the decimal forms of numbers, with a separator between them.
+func decimals(list []int64, separator string) string {
+	words := make([]string, 0, len(list))
+	for _, n := range list {
+		words = append(words, Decimal(n))
+	}
+	return strings.Join(words, separator)
+}
+
 // ReadDecimal returns the number of at most 18 digits with the decimal form s, and whether there is one.
 func ReadDecimal(s string) (int64, bool) {
 	n, err := strconv.ParseInt(s, 10, 64)
